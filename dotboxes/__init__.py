@@ -1,0 +1,1 @@
+"""Boxes laid out, whole: boxes in boxes, in rows and columns."""

@@ -7,11 +7,14 @@ BX_START = 0
 BX_ADD = 1
 BX_SET = 2
 BX_DROP = 3
+BX_LAY = 4
+BX_PLACE = 5
 
-# How many numbers stand behind each call's own: bx_start, bx_add, bx_set, bx_drop.
-HOW_MANY_NUMBERS = (14, 15, 15, 1)
+# How many numbers stand behind each call's own: bx_start, bx_add, bx_set, bx_drop, bx_lay, bx_place, bx_at.
+HOW_MANY_NUMBERS = (14, 15, 15, 1, 2, 1, 2)
 
 FORM_NUMBER = 0
+FORM_PLACE = 1
 
 
 def answers(calls):
@@ -30,7 +33,10 @@ def answers(calls):
 
 
 def answer_to(boxes, call, numbers):
-    return [FORM_NUMBER, number_for(boxes, call, numbers)]
+    number = number_for(boxes, call, numbers)
+    if call == BX_PLACE and number == 0:
+        return [FORM_PLACE] + list(boxes.place_out(numbers[0]))
+    return [FORM_NUMBER, number]
 
 
 def number_for(boxes, call, numbers):
@@ -40,4 +46,10 @@ def number_for(boxes, call, numbers):
         return boxes.bx_add(numbers[0], Rule(numbers[1:]))
     if call == BX_SET:
         return boxes.bx_set(numbers[0], Rule(numbers[1:]))
-    return boxes.bx_drop(numbers[0])
+    if call == BX_DROP:
+        return boxes.bx_drop(numbers[0])
+    if call == BX_LAY:
+        return boxes.bx_lay(numbers[0], numbers[1])
+    if call == BX_PLACE:
+        return boxes.bx_place(numbers[0])
+    return boxes.bx_at(numbers[0], numbers[1])

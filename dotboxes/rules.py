@@ -42,3 +42,7 @@ class Rule:
 
     def is_leaf(self):
         return self.kind == LEAF
+
+    def is_along(self, direction):
+        # A row is kind 0 and goes across, direction 0; a column is kind 1 and goes down, direction 1.
+        return self.kind == direction

@@ -2,10 +2,8 @@
 
 import unittest
 
-from dotboxes.boxes import Boxes
-from dotboxes.rules import Rule
-from helper import (COLUMN, GREATEST, LEAF, RULES_AS_TOLD, RULES_NOT_AS_TOLD,
-                    add, all_boxes, chain, drop, first_difference, full_box, last, put, rule, start, told)
+from helper import (COLUMN, GREATEST, LEAF, RULES_AS_TOLD, RULES_NOT_AS_TOLD, add, all_boxes, chain, drop,
+                    first_difference, fixed, full_box, last, lay, loose, places, put, start, told)
 
 
 class Refusals(unittest.TestCase):
@@ -115,14 +113,8 @@ class Numbers(unittest.TestCase):
         self.assertEqual(told(*calls)[-5:], [15, 15, 16, 17, -28])
 
     def test_a_new_box_is_the_last_in_there(self):
-        # No call of points 1 to 4 tells the order, so the object itself is asked.
-        boxes = Boxes()
-        boxes.bx_start(Rule(rule()))
-        for expected in (1, 2, 3):
-            self.assertEqual(boxes.bx_add(0, Rule(rule())), expected)
-        self.assertEqual(boxes.bx_drop(1), 3)
-        self.assertEqual(boxes.bx_add(0, Rule(rule())), 1)
-        self.assertEqual(boxes.by_number[0].inner, [2, 3, 1])
+        calls = [start(**loose())] + [add(0, **fixed(5, 5))] * 3 + [drop(1), add(0, **fixed(5, 5)), lay(20, 20)]
+        self.assertEqual(places(calls, (2, 3, 1)), [(0, 0, 5, 5), (5, 0, 5, 5), (10, 0, 5, 5)])
 
 
 if __name__ == "__main__":

@@ -1,67 +1,13 @@
-"""Long mixed lists of calls, held against a slow reading of promises 1 to 4, word for word."""
+"""Long drawn lists of all seven calls, held against a slow reckoning of the document's words."""
 
 import random
 import unittest
 
-from helper import GREATEST, RULES_NOT_AS_TOLD, add, drop, first_difference, put, start
+from dotboxes.shares import Thing, shared_lengths
+from helper import (GREATEST, ORDINARY, RULES_NOT_AS_TOLD, Words, add, at, drawn_bounds, drawn_rule, drawn_window,
+                    drop, fair_lengths, first_difference, lay, loose, place, put, shared, start)
 
-
-class Words:
-    """Keeps (number, in, kind) for each box and works out all else anew each time."""
-
-    def __init__(self):
-        self.known = []
-
-    def numbers(self):
-        return [number for number, into, kind in self.known]
-
-    def kind_of(self, i):
-        return [kind for number, into, kind in self.known if number == i][0]
-
-    def boxes_in(self, i):
-        return [number for number, into, kind in self.known if into == i]
-
-    def deep(self, i):
-        around = [into for number, into, kind in self.known if number == i][0]
-        return 1 if around is None else 1 + self.deep(around)
-
-    def start(self, kind, wrong):
-        if wrong:
-            return -22
-        self.known = [(0, None, kind)]
-        return 0
-
-    def add(self, into, kind, wrong):
-        due = [
-            (-2, lambda: into not in self.numbers()),
-            (-22, lambda: wrong),
-            (-13, lambda: self.kind_of(into) == 2),
-            (-28, lambda: len(self.boxes_in(into)) == 64 or self.deep(into) == 16 or len(self.known) == 256),
-        ]
-        for refusal, is_due in due:
-            if is_due():
-                return refusal
-        new = min(set(range(257)) - set(self.numbers()))
-        self.known.append((new, into, kind))
-        return new
-
-    def put(self, i, kind, wrong):
-        if i not in self.numbers():
-            return -2
-        if wrong:
-            return -22
-        if kind == 2 and self.boxes_in(i):
-            return -13
-        self.known = [(number, into, kind if number == i else old) for number, into, old in self.known]
-        return 0
-
-    def drop(self, i):
-        if i not in self.numbers():
-            return -2
-        if i == 0 or self.boxes_in(i):
-            return -13
-        self.known = [row for row in self.known if row[0] != i]
-        return len(self.known)
+LOWEST = -GREATEST - 1
 
 
 def some_box(chance, words):
@@ -76,42 +22,115 @@ def some_box(chance, words):
 
 
 def some_rule(chance):
-    wrong = chance.randrange(10) == 0
-    changes = {"kind": chance.choice([0, 0, 0, 1, 1, 1, 2])}
-    if wrong:
-        changes |= chance.choice(RULES_NOT_AS_TOLD)
-    return changes, wrong
+    changes = drawn_rule(chance)
+    if chance.randrange(10) > 0:
+        return changes, False
+    return ORDINARY | {"kind": changes["kind"]} | chance.choice(RULES_NOT_AS_TOLD), True
 
 
-def some_call(chance, words, drops):
-    """A call in numbers, and what the words say that it answers."""
+def some_window(chance, words):
+    size = drawn_window(chance, words)
+    if chance.randrange(8) == 0:
+        size[chance.randrange(2)] = chance.choice([65536, GREATEST])
+    return size
+
+
+def some_dot(chance, words):
+    """Mostly at or near the edge of a box that is laid out."""
+    if chance.randrange(9) == 0:
+        return [chance.choice([LOWEST, -1, 0, GREATEST]), chance.choice([LOWEST, -1, 0, GREATEST])]
+    where = chance.choice([box.place for box in words.known if box.place is not None])
+    dot = []
+    for way in (0, 1):
+        begin, end = where[way], where[way] + where[2 + way]
+        dot.append(chance.choice([begin - 1, begin, begin + 1, (begin + end) // 2, end - 1, end]))
+    return dot
+
+
+def change(chance, words, drops):
+    """A call that changes the boxes, and what the words say that it answers."""
     changes, wrong = some_rule(chance)
     if chance.randrange(600) == 0:
-        return start(**changes), words.start(changes["kind"], wrong)
+        return start(**changes), words.start(changes, wrong)
     i = some_box(chance, words)
     if chance.randrange(100) < drops:
         return drop(i), words.drop(i)
     if chance.randrange(5) == 0:
-        return put(i, **changes), words.put(i, changes["kind"], wrong)
-    return add(i, **changes), words.add(i, changes["kind"], wrong)
+        return put(i, **changes), words.put(i, changes, wrong)
+    return add(i, **changes), words.add(i, changes, wrong)
+
+
+def question(chance, words, lays):
+    """A call of bx_lay, bx_place or bx_at, and what the words say that it answers."""
+    if chance.randrange(100) < lays:
+        width, height = some_window(chance, words)
+        return lay(width, height), words.lay(width, height)
+    if chance.randrange(2) == 0:
+        i = some_box(chance, words)
+        return place(i), words.place(i)
+    x, y = some_dot(chance, words)
+    return at(x, y), words.at(x, y)
+
+
+def drawn_list(chance, many, questions, lays, drops):
+    """So many calls behind bx_start, and what they answer; of a hundred, so many are questions."""
+    words = Words()
+    calls, expected = [start(**loose())], [words.start(loose(), False)]
+    for step in range(many):
+        if chance.randrange(100) < questions:
+            call, answer = question(chance, words, lays)
+        else:
+            call, answer = change(chance, words, drops)
+        calls.append(call)
+        expected.append(answer)
+    return calls, expected
 
 
 class AgainstWords(unittest.TestCase):
-    def test_mixed_lists(self):
+    def agrees(self, seeds, **how):
+        """Every list answers as the words say; gives back the refusals that came up, with their calls."""
         seen = set()
-        for seed in range(60):
-            chance = random.Random(seed)
-            words = Words()
-            calls, expected = [start()], [words.start(0, False)]
-            for step in range(990):
-                call, answer = some_call(chance, words, drops=(0, 10, 40)[seed % 3])
-                calls.append(call)
-                expected.append(answer)
-            with self.subTest(seed=seed):
+        for seed in seeds:
+            calls, expected = drawn_list(random.Random(seed), **how)
+            with self.subTest(seed=seed, **how):
                 self.assertIsNone(first_difference(calls, expected))
-            seen |= {(call[0], answer) for call, answer in zip(calls, expected) if answer < 0}
+            seen |= {(call[0], answer) for call, answer in zip(calls, expected)
+                     if isinstance(answer, int) and answer < 0}
+        return seen
+
+    def test_boxes_alone(self):
+        seen = set()
+        for drops in (0, 10, 40):
+            seen |= self.agrees(range(20), many=990, questions=0, lays=0, drops=drops)
         self.assertEqual(seen, {(0, -22), (1, -2), (1, -22), (1, -13), (1, -28),
                                 (2, -2), (2, -22), (2, -13), (3, -2), (3, -13)})
+
+    def test_few_boxes_and_many_questions(self):
+        seen = self.agrees(range(100), many=300, questions=70, lays=30, drops=50)
+        self.assertLessEqual({(4, -22), (5, -2), (5, -11), (6, -2)}, seen)
+
+    def test_boxes_that_become_more_and_more(self):
+        seen = self.agrees(range(100, 130), many=600, questions=60, lays=5, drops=5)
+        self.assertLessEqual({(4, -22), (5, -2), (5, -11), (6, -2)}, seen)
+
+    def test_3000_calls(self):
+        self.agrees(range(200, 203), many=2999, questions=80, lays=4, drops=45)
+
+
+class SharedOut(unittest.TestCase):
+    def test_drawn_things(self):
+        chance = random.Random(7)
+        for step in range(3000):
+            things = []
+            for number in range(chance.choice([0, 1, 2, 3, 5, 9, 64])):
+                grow, give = chance.choice([0, 1, 2, 255]), chance.choice([0, 1, 3, 254])
+                things.append((*drawn_bounds(chance), grow, give))
+            length = max(sum([thing[1] for thing in things]) + chance.randrange(-40, 41), 0)
+            length = chance.choice([length, chance.randrange(65536)])
+            got = shared_lengths([Thing(*thing) for thing in things], length)
+            near = [abs(size - fair) < 1 for size, fair in zip(got, fair_lengths(things, length), strict=True)]
+            if got != shared(things, length) or not all(near):
+                self.fail(f"{things}, {length}: {got}")
 
 
 if __name__ == "__main__":

@@ -2,9 +2,7 @@
 
 import unittest
 
-from dotboxes.boxes import Boxes
-from dotboxes.rules import Rule
-from helper import GREATEST, LEAF, add, all_boxes, chain, drop, put, rule, start, told
+from helper import GREATEST, LEAF, add, all_boxes, chain, drop, fixed, lay, loose, places, put, start, told
 
 
 class Refusals(unittest.TestCase):
@@ -59,14 +57,8 @@ class Dropped(unittest.TestCase):
         self.assertEqual(told(*calls)[16:], [-13] * 15)
 
     def test_the_others_keep_their_numbers_and_order(self):
-        # No call of points 1 to 4 tells the order, so the object itself is asked.
-        boxes = Boxes()
-        boxes.bx_start(Rule(rule()))
-        for number in range(4):
-            boxes.bx_add(0, Rule(rule()))
-        self.assertEqual(boxes.bx_drop(2), 4)
-        self.assertEqual(boxes.by_number[0].inner, [1, 3, 4])
-        self.assertEqual(sorted(boxes.by_number), [0, 1, 3, 4])
+        calls = [start(**loose())] + [add(0, **fixed(5, 5))] * 4 + [drop(2), lay(20, 20)]
+        self.assertEqual(places(calls, (1, 2, 3, 4)), [(0, 0, 5, 5), -2, (5, 0, 5, 5), (10, 0, 5, 5)])
 
 
 if __name__ == "__main__":

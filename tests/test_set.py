@@ -95,7 +95,7 @@ class Changed(unittest.TestCase):
         self.assertEqual(told(*calls), [0, 1, 2, 0, -13, 2, 1])
 
     def test_the_new_rule_is_kept_whole(self):
-        # No call of points 1 to 4 tells a rule, so the object itself is asked.
+        # Some of its numbers show in places only together with others, so the object itself is asked.
         boxes = Boxes()
         boxes.bx_start(Rule(rule()))
         numbers = [11, 12, 13, 14, 15, 16, 1, 17, 18, 19, 20, 2, 3, 0]

@@ -2,9 +2,9 @@
 
 import unittest
 
-from dotboxes.boxes import Boxes
 from dotboxes.rules import Rule
-from helper import GREATEST, LEAF, ROW, RULES_AS_TOLD, RULES_NOT_AS_TOLD, add, drop, put, rule, start, told
+from helper import (GREATEST, LEAF, ROW, RULES_AS_TOLD, RULES_NOT_AS_TOLD, add, at, drop, lay, place, put, replies,
+                    start, told)
 
 
 class Start(unittest.TestCase):
@@ -55,18 +55,11 @@ class Start(unittest.TestCase):
 
 
 class LaidOut(unittest.TestCase):
-    """No call of points 1 to 4 tells a place, so the object itself is asked."""
-
     def test_box_0_is_laid_out_in_a_window_of_0_by_0(self):
-        boxes = Boxes()
-        self.assertEqual(boxes.bx_start(Rule(rule())), 0)
-        self.assertEqual(boxes.by_number[0].place, (0, 0, 0, 0))
+        self.assertEqual(replies(start(), place(0), at(0, 0), lay(0, 0)), [0, (0, 0, 0, 0), -2, 0])
 
     def test_an_added_box_is_not_laid_out(self):
-        boxes = Boxes()
-        boxes.bx_start(Rule(rule()))
-        self.assertEqual(boxes.bx_add(0, Rule(rule())), 1)
-        self.assertIsNone(boxes.by_number[1].place)
+        self.assertEqual(replies(start(), add(0), place(1)), [0, 1, -11])
 
     def test_each_number_of_a_rule_is_kept_under_its_name(self):
         kept = Rule(list(range(1, 15)))
